@@ -1,0 +1,1 @@
+"""Helpers under glass."""
