@@ -5,10 +5,12 @@ A set of kinds is a number. Each call gives back the list of numbers that it ans
 
 MOST_KINDS = 6
 MOST_COST = 1000
+MOST_WEEKS = 20
 
 BAD_NUMBER = -1
 NOT_THERE = -2
 NOT_ALLOWED = -4
+NO_WAY = -6
 
 
 def holds(group, kind):
@@ -77,3 +79,72 @@ class Glasshouse:
                 if self.prey[kind] & there != 0:
                     fed = fed | (1 << kind)
         return there & fed & ~eaten
+
+    def best(self):
+        least = None
+        sets = []
+        for helpers in range(1 << self.kinds):
+            if helpers & self.pests == 0 and self.rids(helpers):
+                price = self.price_of(helpers)
+                if least is None or price < least:
+                    least = price
+                    sets = []
+                if price == least:
+                    sets.append(helpers)
+        if least is None:
+            return [NO_WAY]
+        # The sets were tried from the lowest number on, so the first of them is the least.
+        return [least, len(sets), sets[0]]
+
+    def rids(self, helpers):
+        there = helpers | self.pests
+        for week in range(self.kinds):
+            there = self.after_week(there)
+        return self.free_of_pests(there)
+
+    def price_of(self, helpers):
+        return sum([self.costs[kind] for kind in range(self.kinds) if holds(helpers, kind)])
+
+    def free_of_pests(self, there):
+        return there & self.pests == 0
+
+    def goes(self, choices):
+        if len(choices) > MOST_WEEKS or any([choice > self.kinds for choice in choices]):
+            return [BAD_NUMBER]
+        if any([holds(self.pests, choice) for choice in choices]):
+            return [NOT_ALLOWED]
+        there = self.pests
+        seen = [there]
+        for choice in choices:
+            there = self.after_choice(there, choice)
+            seen.append(there)
+        return [1 if self.free_of_pests(there) else 0] + seen
+
+    def after_choice(self, there, choice):
+        # The number of kinds stands for none.
+        if choice < self.kinds:
+            there = there | (1 << choice)
+        return self.after_week(there)
+
+    def row(self):
+        rows = {self.pests: []}
+        newest = [self.pests]
+        while len(newest) > 0:
+            for there in newest:
+                if self.free_of_pests(there):
+                    return [len(rows[there])] + rows[there]
+            newest = self.lengthen(rows, newest)
+        return [NO_WAY]
+
+    def lengthen(self, rows, newest):
+        choices = [choice for choice in range(self.kinds + 1) if not holds(self.pests, choice)]
+        reached = []
+        # The newest sets stand in the order of their rows, and lower choices are tried first: so the first row that
+        # reaches a set is its earliest, and what is reached stands in the order of its rows again.
+        for there in newest:
+            for choice in choices:
+                later = self.after_choice(there, choice)
+                if later not in rows:
+                    rows[later] = rows[there] + [choice]
+                    reached.append(later)
+        return reached

@@ -6,6 +6,9 @@ BEGINS = 0
 EATS = 1
 COST = 2
 WEEKS = 3
+BEST = 4
+GOES = 5
+ROW = 6
 
 
 class UnknownCall(ValueError):
@@ -21,6 +24,12 @@ def answer(glasshouse, call, numbers):
         return glasshouse.cost(numbers[0], numbers[1])
     if call == WEEKS:
         return glasshouse.weeks(numbers[0])
+    if call == BEST:
+        return glasshouse.best()
+    if call == GOES:
+        return glasshouse.goes(numbers)
+    if call == ROW:
+        return glasshouse.row()
     raise UnknownCall(f"no call has the number {call}")
 
 

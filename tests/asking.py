@@ -21,6 +21,22 @@ def weeks(helpers):
     return [3, 1, helpers, 0]
 
 
+def best():
+    return [4, 0, 0]
+
+
+def goes(*choices):
+    return [5, len(choices), *choices, 0]
+
+
+def row():
+    return [6, 0, 0]
+
+
+def house(kinds, pests, pairs):
+    return [begins(kinds, pests)] + [eats(kind, other) for kind, other in pairs]
+
+
 def line(*calls):
     return [number for call in calls for number in call]
 
@@ -38,3 +54,7 @@ def part(given):
 
 def ask(*calls):
     return part(answers(line(*calls)))
+
+
+def ask_last(*calls):
+    return ask(*calls)[-1]

@@ -2,8 +2,7 @@
 
 import unittest
 
-from asking import LARGEST, ask, begins, cost, eats, weeks
-from glasshelpers.glasshouse import Glasshouse
+from asking import LARGEST, ask, begins, best, cost, eats, weeks
 
 
 class AtTheBeginningOfALine(unittest.TestCase):
@@ -15,7 +14,7 @@ class AtTheBeginningOfALine(unittest.TestCase):
         self.assertEqual(ask(cost(0, 7), cost(1, 7)), [[0], [-2]])
 
     def test_the_helper_costs_nothing(self):
-        self.assertEqual(Glasshouse().costs, [0])
+        self.assertEqual(ask(best(), cost(0, 1), best()), [[0, 2, 0], [0], [0, 1, 0]])
 
 
 class Begins(unittest.TestCase):
@@ -46,11 +45,8 @@ class Begins(unittest.TestCase):
             self.assertEqual(asked, [[0], [1], [-1], [-4], [2, 3, 2, 0], [-1], [2], [-4]])
 
     def test_costs_are_as_they_were_behind_a_refusal(self):
-        house = Glasshouse()
-        house.begins(2, 0)
-        house.cost(1, 9)
-        self.assertEqual(house.begins(2, 4), [-1])
-        self.assertEqual(house.costs, [0, 9])
+        asked = ask(begins(2, 1), eats(1, 0), cost(1, 9), begins(2, 4), best(), begins(7, 1), best())
+        self.assertEqual(asked[3:], [[-1], [9, 1, 2], [-1], [9, 1, 2]])
 
     def test_in_the_midst_nobody_eats_another_and_it_is_counted_anew(self):
         told = [begins(3, 1), eats(1, 0), eats(2, 1), weeks(2)]
@@ -63,12 +59,9 @@ class Begins(unittest.TestCase):
         self.assertEqual(asked, [[0], [0], [1, 3, 2], [-4], [-1], [-2], [-4], [0]])
 
     def test_in_the_midst_helpers_cost_nothing(self):
-        house = Glasshouse()
-        house.begins(3, 1)
-        house.cost(1, 5)
-        house.cost(2, 1000)
-        self.assertEqual(house.begins(3, 1), [0])
-        self.assertEqual(house.costs, [0, 0, 0])
+        told = [begins(3, 1), eats(1, 0), eats(2, 0)]
+        asked = ask(*told, cost(1, 5), cost(2, 1000), best(), *told, best())
+        self.assertEqual(asked[5:], [[5, 1, 2], [0], [1], [2], [0, 3, 2]])
 
 
 class Eats(unittest.TestCase):
@@ -106,14 +99,14 @@ class Eats(unittest.TestCase):
 class Cost(unittest.TestCase):
     def test_what_a_helper_may_cost(self):
         for price in (0, 1, 999, 1000):
-            self.assertEqual(ask(begins(2, 1), cost(1, price), cost(1, price)), [[0], [0], [0]])
+            asked = ask(begins(2, 1), eats(1, 0), cost(1, price), cost(1, price), best())
+            self.assertEqual(asked, [[0], [1], [0], [0], [price, 1, 2]])
 
     def test_it_is_kept_for_that_helper_and_the_last_told_holds(self):
-        house = Glasshouse()
-        house.begins(4, 2)
-        for helper, price in ((0, 1000), (3, 4), (2, 8), (3, 5), (0, 0)):
-            self.assertEqual(house.cost(helper, price), [0])
-        self.assertEqual(house.costs, [0, 0, 8, 5])
+        # Each of the three is needed, for a pest of its own.
+        told = [begins(6, 42), eats(0, 1), eats(2, 3), eats(4, 5)]
+        asked = ask(*told, cost(0, 1000), cost(4, 4), best(), cost(2, 80), cost(4, 5), best(), cost(0, 0), best())
+        self.assertEqual(asked[4:], [[0], [0], [1004, 1, 21], [0], [0], [1085, 1, 21], [0], [85, 1, 21]])
 
     def test_no_such_kind(self):
         for kinds in range(1, 7):
@@ -132,14 +125,9 @@ class Cost(unittest.TestCase):
         self.assertEqual(asked, [[0], [-2], [-2], [-1], [-1]])
 
     def test_all_is_as_it_was_behind_a_refusal(self):
-        house = Glasshouse()
-        house.begins(3, 1)
-        house.eats(1, 0)
-        house.cost(1, 6)
         for helper, price, number in ((3, 1, -2), (1, 1001, -1), (0, 1, -4)):
-            self.assertEqual(house.cost(helper, price), [number])
-        self.assertEqual(house.costs, [0, 6, 0])
-        self.assertEqual(house.weeks(2), [2, 3, 2, 0])
+            asked = ask(begins(3, 1), eats(1, 0), cost(1, 6), cost(helper, price), best(), weeks(2))
+            self.assertEqual(asked[3:], [[number], [6, 2, 2], [2, 3, 2, 0]])
 
     def test_it_changes_nothing_of_who_eats_whom(self):
         asked = ask(begins(2, 1), eats(1, 0), cost(1, 3), weeks(2), eats(0, 1))

@@ -3,13 +3,16 @@
 import contextlib
 import inspect
 import io
+import sys
 import unittest
 
-from asking import LARGEST, begins, cost, eats, line, part, weeks
+from asking import LARGEST, begins, best, cost, eats, goes, house, line, part, row, weeks
 from glasshelpers.house import answers
 
-TALE = line(begins(3, 1), eats(1, 0), cost(1, 7), weeks(2), weeks(1), eats(1, 0), begins(0, 0), weeks(6))
-TOLD = [1, 0, 1, 1, 1, 0, 4, 2, 3, 2, 0, 1, -4, 1, -4, 1, -1, 4, 2, 7, 2, 0]
+TALE = line(begins(3, 1), eats(1, 0), cost(1, 7), weeks(2), weeks(1), eats(1, 0), begins(0, 0), weeks(6),
+            best(), goes(1, 3), row(), goes(), goes(4), goes(0), begins(2, 1), best(), row())
+TOLD = [1, 0, 1, 1, 1, 0, 4, 2, 3, 2, 0, 1, -4, 1, -4, 1, -1, 4, 2, 7, 2, 0,
+        3, 7, 2, 2, 4, 1, 1, 2, 0, 2, 1, 1, 2, 0, 1, 1, -1, 1, -4, 1, 0, 1, -6, 1, -6]
 
 
 def refuse(*told, **more):
@@ -33,6 +36,11 @@ class Interface(unittest.TestCase):
         self.assertEqual(answers([2, 2, 0, 1000, 0]), [1, 0])
         self.assertEqual(answers([3, 1, 1, 0]), [3, 1, 1, 0])
         self.assertEqual(answers([3, 1, 0, 0]), [2, 0, 0])
+        self.assertEqual(answers([4, 0, 0]), [3, 0, 2, 0])
+        self.assertEqual(answers([5, 0, 0]), [2, 1, 0])
+        self.assertEqual(answers([5, 2, 0, 1, 0]), [4, 1, 0, 0, 0])
+        self.assertEqual(answers([5, 1, 2, 0]), [1, -1])
+        self.assertEqual(answers([6, 0, 0]), [1, 0])
 
     def test_names_and_arguments(self):
         self.assertEqual(list(inspect.signature(answers).parameters), ["calls"])
@@ -44,13 +52,46 @@ class Interface(unittest.TestCase):
             self.assertIs(type(number), int)
 
     def test_the_largest_numbers_everywhere(self):
-        calls = line(begins(LARGEST, LARGEST), eats(LARGEST, LARGEST), cost(LARGEST, LARGEST), weeks(LARGEST))
-        self.assertEqual(answers(calls), [1, -1, 1, -2, 1, -2, 1, -1])
+        calls = line(begins(LARGEST, LARGEST), eats(LARGEST, LARGEST), cost(LARGEST, LARGEST), weeks(LARGEST),
+                     goes(LARGEST), goes(*[LARGEST] * 24))
+        self.assertEqual(answers(calls), [1, -1, 1, -2, 1, -2, 1, -1, 1, -1, 1, -1])
 
     def test_sixty_calls(self):
         calls = line(begins(6, 1), *[eats(5, 0), weeks(32)] * 29, cost(5, 1000))
         later = [[-4], [2, 33, 32, 0]] * 28
         self.assertEqual(part(answers(calls)), [[0], [1], [2, 33, 32, 0]] + later + [[0]])
+
+    def test_all_calls_in_one_line(self):
+        calls = line(best(), row(), begins(4, 1), eats(1, 0), cost(1, 8), best(), eats(2, 0), goes(2), weeks(6),
+                     best(), cost(2, 9), eats(2, 1), row(), begins(3, 6), eats(0, 2), goes(0, 3), eats(0, 1), best())
+        self.assertEqual(part(answers(calls)), [
+            [0, 2, 0], [0], [0], [1], [0], [8, 4, 2], [2], [1, 1, 4], [2, 7, 6, 0],
+            [0, 2, 4], [0], [3], [1, 1], [0], [1], [0, 6, 3, 2], [2], [0, 1, 1]])
+
+    def test_six_calls_of_best_and_row(self):
+        told = house(6, 7, [(3, 0), (4, 1), (5, 2)])
+        calls = line(*told, best(), row(), cost(4, 3), best(), row(), eats(3, 1), best(), row())
+        self.assertEqual(part(answers(calls))[4:], [
+            [0, 1, 56], [3, 3, 4, 5], [0], [3, 1, 56], [3, 3, 4, 5], [4], [0, 1, 40], [2, 3, 5]])
+
+    def test_sixty_calls_of_all_kinds(self):
+        told = house(6, 7, [(3, 0), (4, 1), (5, 2)])
+        calls = line(*told, *[goes(*[6] * 20), weeks(56), goes(*[6] * 24)] * 16, best(), row(), *[cost(5, 1000)] * 2,
+                     best(), row(), best(), row())
+        waited = [0] + [7] * 21
+        self.assertEqual(part(answers(calls)), [
+            [0], [1], [2], [3], *[waited, [2, 63, 56, 0], [-1]] * 16, [0, 1, 56], [3, 3, 4, 5], [0], [0],
+            [1000, 1, 56], [3, 3, 4, 5], [1000, 1, 56], [3, 3, 4, 5]])
+
+    def test_sixty_calls_are_gone_through_by_loops(self):
+        usual = sys.getrecursionlimit()
+        calls = line(begins(6, 1), eats(1, 0), *[goes(*[6] * 20)] * 56, best(), row())
+        sys.setrecursionlimit(len(inspect.stack(0)) + 25)
+        try:
+            given = answers(calls)
+        finally:
+            sys.setrecursionlimit(usual)
+        self.assertEqual(part(given)[-2:], [[0, 16, 2], [1, 1]])
 
     def test_what_is_handed_in_stays_as_it_is(self):
         calls = list(TALE)

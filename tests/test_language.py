@@ -77,6 +77,25 @@ class Language(unittest.TestCase):
         for name, node in nodes(ast.Constant):
             self.assertIn(node.value.__class__, (int, str, bool, None.__class__), name)
 
+    def test_what_stands_by_itself_is_a_call_or_a_files_docstring(self):
+        for path in package_files():
+            tree = ast.parse(path.read_text(encoding="utf-8"))
+            for node in ast.walk(tree):
+                if isinstance(node, ast.Expr) and node != tree.body[0]:
+                    self.assertIsInstance(node.value, ast.Call, (path.name, node.lineno))
+
+    def test_is_stands_beside_none_true_and_false_alone(self):
+        for name, node in nodes(ast.Compare):
+            for sign, right in zip(node.ops, node.comparators):
+                if isinstance(sign, (ast.Is, ast.IsNot)):
+                    self.assertIn(ast.unparse(right), ("None", "True", "False"), (name, node.lineno))
+
+    def test_no_name_is_a_method_and_a_value(self):
+        methods = [row.name for name, node in nodes(ast.ClassDef) for row in node.body if hasattr(row, "name")]
+        for name, node in nodes(ast.Attribute):
+            if isinstance(node.ctx, ast.Store):
+                self.assertNotIn(node.attr, methods, (name, node.lineno))
+
     def test_a_power_has_a_written_exponent(self):
         for name, node in nodes(ast.BinOp):
             if isinstance(node.op, ast.Pow):

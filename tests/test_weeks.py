@@ -2,32 +2,11 @@
 
 import unittest
 
-from asking import LARGEST, ask, begins, eats, weeks
+from asking import LARGEST, ask, begins, eats, house, weeks
+from words import helper_sets, large_houses, small_houses, told_weeks
 
 # Greenfly 0 and ants 1 are pests; ladybirds 2, wasps 3 and hunters 4 are helpers.
 TALE = [begins(5, 3), eats(2, 0), eats(1, 2), eats(3, 1), eats(4, 3)]
-
-
-def members(number):
-    return {kind for kind in range(6) if number // 2 ** kind % 2 == 1}
-
-
-def number_of(group):
-    return sum(2 ** kind for kind in group)
-
-
-def told_weeks(pests, pairs, helpers):
-    """What weeks answers, by the document's words over Python's sets."""
-    there = members(pests) | members(helpers)
-    seen = [number_of(there)]
-    while True:
-        eaten = {other for kind, other in pairs if kind in there}
-        fed = {kind for kind, other in pairs if other in there}
-        later = {kind for kind in there if kind not in eaten and (kind in members(pests) or kind in fed)}
-        if later == there:
-            return [len(seen) - 1] + seen
-        there = later
-        seen.append(number_of(there))
 
 
 class Weeks(unittest.TestCase):
@@ -97,32 +76,19 @@ class Refused(unittest.TestCase):
 
 class AgainstTheWords(unittest.TestCase):
     def check(self, kinds, pests, pairs, sets):
-        told = [begins(kinds, pests)] + [eats(kind, other) for kind, other in pairs]
+        told = house(kinds, pests, pairs)
         answered = ask(*told, *[weeks(helpers) for helpers in sets])[len(told):]
         self.assertEqual(answered, [told_weeks(pests, pairs, helpers) for helpers in sets])
 
-    def pairs_of(self, kinds, choice):
-        every = [(kind, other) for kind in range(kinds) for other in range(kinds) if kind != other]
-        return [pair for place, pair in enumerate(every) if choice // 2 ** place % 2 == 1]
-
-    def sets_beside(self, kinds, pests):
-        return [helpers for helpers in range(2 ** kinds) if helpers & pests == 0]
-
     def test_every_glasshouse_of_up_to_three_kinds(self):
-        for kinds in (1, 2, 3):
-            for pests in range(2 ** kinds):
-                for choice in range(2 ** (kinds * (kinds - 1))):
-                    self.check(kinds, pests, self.pairs_of(kinds, choice), self.sets_beside(kinds, pests))
+        for kinds, pests, pairs in small_houses():
+            self.check(kinds, pests, pairs, helper_sets(kinds, pests))
 
     def test_many_glasshouses_of_four_to_six_kinds(self):
-        for kinds in (4, 5, 6):
-            for count in range(300):
-                # Two choices laid over one another, so that few eat and chains are long.
-                choice = (count * 2654435761) & (count * 40503 * 65539 + 12345) & (2 ** 30 - 1)
-                pests = count * 37 % 2 ** kinds
-                sets = self.sets_beside(kinds, pests)
-                self.check(kinds, pests, self.pairs_of(kinds, choice), sets[:29])
-                self.check(kinds, pests, self.pairs_of(kinds, choice), sets[-29:])
+        for kinds, pests, pairs in large_houses():
+            sets = helper_sets(kinds, pests)
+            self.check(kinds, pests, pairs, sets[:29])
+            self.check(kinds, pests, pairs, sets[-29:])
 
 
 if __name__ == "__main__":
